@@ -114,9 +114,6 @@ func Do(t Tree, o Op, fresh Handle) (Tree, Reply) {
 		return Tree{}, Reply{Code: RpBad}
 	}
 	nodes := nodesByHandle(copiedNodes(t.Nodes))
-	if o.Kind == OpMake && !nodes.takes(fresh, o.To) {
-		return Tree{Nodes: nodes.ascending()}, Reply{Code: RpBad}
-	}
 	reply := nodes.do(o, fresh)
 	return Tree{Nodes: nodes.ascending()}, reply
 }
@@ -181,6 +178,19 @@ func (o Op) valOk() bool {
 // byPlace leaves Dir out: no two nodes of a tree have one Shard and Ino.
 func byPlace(a, b Handle) int {
 	return cmp.Or(cmp.Compare(a.Shard, b.Shard), cmp.Compare(a.Ino, b.Ino))
+}
+
+// byHandle holds handles of one place apart: a shard may come to have a file and a directory there, whose order must not hang on a map's.
+func byHandle(a, b Handle) int {
+	switch place := byPlace(a, b); {
+	case place != 0:
+		return place
+	case !a.Dir && b.Dir:
+		return -1
+	case a.Dir && !b.Dir:
+		return 1
+	}
+	return 0
 }
 
 func ascendingNodes(nodes []Node) bool {
@@ -294,7 +304,7 @@ func (m nodeMap) ascending() []Node {
 	for _, n := range m {
 		out = append(out, n)
 	}
-	slices.SortFunc(out, func(a, b Node) int { return byPlace(a.H, b.H) })
+	slices.SortFunc(out, func(a, b Node) int { return byHandle(a.H, b.H) })
 	return out
 }
 
@@ -305,8 +315,11 @@ func (m nodeMap) takes(fresh, to Handle) bool {
 	return HandleOk(fresh) && fresh.Shard == to.Shard && fresh.Dir == to.Dir && !isFile && !isDir && len(m) < MaxShards*MaxNodes
 }
 
-// do leaves m as it is where it refuses. m has the nodes of a tree, with memory of their own; the operation is OpOk.
+// do leaves m as it is where it refuses. m has the nodes of a tree, or those of it that lie on one shard, with memory of their own; the operation is OpOk.
 func (m nodeMap) do(o Op, fresh Handle) Reply {
+	if o.Kind == OpMake && !m.takes(fresh, o.To) {
+		return Reply{Code: RpBad}
+	}
 	if code := m.dirCode(o); code != RpWell {
 		return Reply{Code: code}
 	}
@@ -447,7 +460,7 @@ func (m nodeMap) drop(o Op) Reply {
 	if !there {
 		return Reply{Code: RpNoEnt}
 	}
-	if len(m[h].Entries) > 0 {
+	if h.Dir && len(m[h].Entries) > 0 {
 		return Reply{Code: RpNotEmpty}
 	}
 	m.takeOut(o.Dir, o.Name)
@@ -482,8 +495,8 @@ func (m nodeMap) move(o Op) Reply {
 	}
 	m.takeOut(o.Dir, o.Name)
 	m.enter(o.To, o.As, h)
-	if h.Dir {
-		n := m[h]
+	// A directory whose entry lies on this shard may lie on another one itself.
+	if n, here := m[h]; here && h.Dir {
 		n.Parent = o.To
 		m[h] = n
 	}

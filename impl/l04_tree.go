@@ -298,6 +298,16 @@ func copiedNodes(nodes []Node) []Node {
 	return out
 }
 
+// clone shares no memory with m, so that do may write into it.
+func (m nodeMap) clone() nodeMap {
+	out := nodeMap{}
+	for h, n := range m {
+		n.Entries = copiedEntries(n.Entries)
+		out[h] = n
+	}
+	return out
+}
+
 // ascending sorts, since a map is gone through in no order.
 func (m nodeMap) ascending() []Node {
 	var out []Node

@@ -222,7 +222,7 @@ func (q *queue[T]) all() []T {
 func newCluster(s Setup) *cluster {
 	c := &cluster{}
 	for id := range s.Shards {
-		// As many sectors as a disk may have are always given.
+		// A setup that is ok asks for no more sectors than a disk may have.
 		disk, _ := DiskNew(s.Sectors)
 		m := &member{state: newState(id), in: c, journal: Journal{Disk: disk}}
 		m.start()
@@ -424,8 +424,8 @@ func (m *member) load() {
 	}
 }
 
+// start needs no look at the journal: the state is what it says, and nothing is open.
 func (m *member) start() {
-	m.load()
 	m.begun = 0
 	m.up = m.commit(Record{Kind: RcBoot})
 }

@@ -72,7 +72,7 @@ func unanswered(calls []impl.Call, deeds []impl.Deed) string {
 			}
 			isThere = isThere || d.At <= c.To && sameReply(d.Reply, c.Reply)
 		}
-		isBusy, changes := c.To >= 0 && c.Reply.Code == impl.RpBusy, c.Op.Kind >= impl.OpWrite
+		isBusy, changes := c.To >= 0 && c.Reply.Code == impl.RpBusy, c.Op.Kind >= impl.OpWrite && c.Op.Kind <= impl.OpMove
 		switch {
 		case c.To >= 0 && !isBusy && !isThere:
 			return fmt.Sprint("no deed of ", c)

@@ -261,4 +261,10 @@ func TestAHandleNamedAheadOfItsMaking(t *testing.T) {
 	if made, linked := r.Deeds[1].Reply, r.Deeds[2].Reply; made.H != fileAt(1, 2) || linked.Code != impl.RpStale {
 		t.Error("Deeds:", r.Deeds)
 	}
+	if _, number := impl.Follow(r.Deeds); number != 2 {
+		t.Error("Follow tells", number)
+	}
+	if !impl.Answered(r.Calls, r.Deeds) {
+		t.Error("not answered:", unanswered(r.Calls, r.Deeds))
+	}
 }
